@@ -7,6 +7,7 @@ import (
 
 	"capstan/api"
 	"capstan/calls"
+	"capstan/sample"
 )
 
 // P11.1, P11.2, P11.3: the chapter's examples.
@@ -196,7 +197,7 @@ func TestNotWellFormed(t *testing.T) {
 		m.Methods[k].Args, m.Methods[k].Result, m.Methods[k].Reads, m.Methods[k].Fuel = make([]uint8, 20), 9, k == 0, -1
 	}
 	compareError(t, m, 0)
-	m.Methods[1].Code = append(slices.Repeat(written("nop"), 500), call(0))
+	m.Methods[1].Code = append(slices.Repeat(sample.Code("nop"), 500), call(0))
 	compareError(t, m, badCycle)
 	m.Methods[1].Code = slices.Repeat([]api.Instr{call(2), call(2), call(0), call(1)}, 300)
 	compareError(t, m, badCycle)
@@ -252,12 +253,12 @@ func TestCyclesOfAll(t *testing.T) {
 		for _, step := range []int{1, 2*n - 1} {
 			m := idle(n)
 			for k := range n {
-				m.Methods[k].Code = append(written("ret"), call((k+step)%n))
+				m.Methods[k].Code = append(sample.Code("ret"), call((k+step)%n))
 			}
 			compareError(t, m, badCycle)
 			for k := range n {
 				code := m.Methods[k].Code
-				m.Methods[k].Code = written("ret")
+				m.Methods[k].Code = sample.Code("ret")
 				compareError(t, m, 0)
 				m.Methods[k].Code = code
 			}
@@ -344,7 +345,7 @@ func chain(n, step int) api.Module {
 	m := idle(n)
 	for k := range n {
 		if to := k + step; 0 <= to && to < n {
-			m.Methods[k].Code = written("ret; nop; ret")
+			m.Methods[k].Code = sample.Code("ret; nop; ret")
 			m.Methods[k].Code[1] = call(to)
 		}
 	}

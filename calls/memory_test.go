@@ -6,42 +6,9 @@ import (
 
 	"capstan/api"
 	"capstan/calls"
+	"capstan/module"
+	"capstan/sample"
 )
-
-// twin returns a module equal to m in memory of its own; each of its slices has room behind it, which holds something else.
-func twin(m api.Module) api.Module {
-	m.Globals = append(slices.Clone(m.Globals), api.Value{Kind: 9}, api.Value{Kind: 8})[:len(m.Globals)]
-	m.Pool = append(slices.Clone(m.Pool), api.Value{Kind: 7}, api.Value{Kind: 6})[:len(m.Pool)]
-	m.Methods = append(slices.Clone(m.Methods), api.Method{Code: []api.Instr{call(0)}}, api.Method{Fuel: 7})[:len(m.Methods)]
-	for k, x := range m.Methods {
-		x.Args = append(slices.Clone(x.Args), 9, 8, 7)[:len(x.Args)]
-		x.Locals = append(slices.Clone(x.Locals), 6, 5, 4)[:len(x.Locals)]
-		x.Code = append(slices.Clone(x.Code), call(k), call(-7), call(0))[:len(x.Code)]
-		m.Methods[k] = x
-	}
-	return m
-}
-
-// whole returns all memory of m, capacity included, as lists of their full length.
-func whole(m api.Module) api.Module {
-	m.Globals, m.Pool, m.Methods = m.Globals[:cap(m.Globals)], m.Pool[:cap(m.Pool)], slices.Clone(m.Methods[:cap(m.Methods)])
-	for k, x := range m.Methods {
-		x.Args, x.Locals, x.Code = x.Args[:cap(x.Args)], x.Locals[:cap(x.Locals)], x.Code[:cap(x.Code)]
-		m.Methods[k] = x
-	}
-	return m
-}
-
-// equalMethod tells whether two methods are equal, code included.
-func equalMethod(a, b api.Method) bool {
-	return slices.Equal(a.Args, b.Args) && slices.Equal(a.Locals, b.Locals) && slices.Equal(a.Code, b.Code) &&
-		a.Result == b.Result && a.Reads == b.Reads && a.Fuel == b.Fuel && a.Stack == b.Stack && a.Heap == b.Heap
-}
-
-// equal tells whether two modules are equal.
-func equal(a, b api.Module) bool {
-	return slices.Equal(a.Globals, b.Globals) && slices.Equal(a.Pool, b.Pool) && slices.EqualFunc(a.Methods, b.Methods, equalMethod) && a.Migrate == b.Migrate
-}
 
 // answers returns the lists that all functions return for m, each with its error in front.
 func answers(m api.Module) [][]int {
@@ -64,14 +31,6 @@ func copied(lists [][]int) [][]int {
 		l = append(l, slices.Clone(x))
 	}
 	return l
-}
-
-// spoil writes something else into all memory of l, capacity included.
-func spoil(l []int) {
-	l = l[:cap(l)]
-	for i := range l {
-		l[i] = -7 - i
-	}
 }
 
 // same tells whether two lists of lists are equal.
@@ -101,14 +60,14 @@ func modules() []api.Module {
 // What is passed stays as it was, and so does what stands behind its lists; the answer does not hang on that.
 func TestPassed(t *testing.T) {
 	for _, m := range modules() {
-		passed := twin(m)
-		kept := twin(whole(passed))
+		passed := sample.Twin(m)
+		kept := sample.Twin(sample.Whole(passed))
 		want := answers(m)
 		if got := answers(passed); !same(got, want) {
 			t.Errorf("%v, not %v, of %v", got, want, m)
 		}
-		if !equal(whole(passed), kept) {
-			t.Fatalf("%v has changed, into %v", kept, whole(passed))
+		if !module.Same(sample.Whole(passed), kept) {
+			t.Fatalf("%v has changed, into %v", kept, sample.Whole(passed))
 		}
 	}
 }
@@ -116,25 +75,22 @@ func TestPassed(t *testing.T) {
 // What is returned is the caller's own: writing into it changes neither what was passed nor a later answer, and a later change of what was passed does not change it.
 func TestReturned(t *testing.T) {
 	for _, m := range modules() {
-		passed := twin(m)
-		kept := twin(whole(passed))
+		passed := sample.Twin(m)
+		kept := sample.Twin(sample.Whole(passed))
 		got := answers(passed)
 		want := copied(got)
 		for _, l := range got {
-			spoil(l)
+			sample.Spoil(l, -7)
 		}
-		if !equal(whole(passed), kept) {
-			t.Fatalf("%v has changed, into %v", kept, whole(passed))
+		if !module.Same(sample.Whole(passed), kept) {
+			t.Fatalf("%v has changed, into %v", kept, sample.Whole(passed))
 		}
 		got = answers(passed)
 		if !same(got, want) {
 			t.Fatalf("%v, and then %v, of %v", want, got, m)
 		}
 		for _, x := range passed.Methods {
-			code := x.Code[:cap(x.Code)]
-			for i := range code {
-				code[i] = api.Instr{Op: 9, A: 9}
-			}
+			sample.Spoil(x.Code, api.Instr{Op: 9, A: 9})
 		}
 		clear(passed.Methods)
 		if !same(got, want) {
@@ -149,7 +105,7 @@ func TestApart(t *testing.T) {
 		got := answers(m)
 		want := copied(got)
 		for n := range got {
-			spoil(got[n])
+			sample.Spoil(got[n], -7)
 			_ = append(got[n], 98, 97)
 			got[n] = slices.Clone(want[n])
 			if !same(got, want) {

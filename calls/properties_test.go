@@ -6,6 +6,7 @@ import (
 
 	"capstan/api"
 	"capstan/calls"
+	"capstan/sample"
 )
 
 // leadsOf returns to whom each method of m leads, as Leads tells it.
@@ -63,7 +64,7 @@ func TestOrderIdle(t *testing.T) {
 	for _, n := range []int{0, 1, 2, 3, 15, 16, 17, 40, 300} {
 		m := idle(n)
 		for k := range m.Methods {
-			m.Methods[k].Code = written("get 1; store 1; jump 1; ret")[:k%5]
+			m.Methods[k].Code = sample.Code("get 1; store 1; jump 1; ret")[:k%5]
 		}
 		order, e := calls.Order(m)
 		if e != 0 || len(order) != n {

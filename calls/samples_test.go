@@ -10,7 +10,7 @@ import (
 
 	"capstan/api"
 	"capstan/calls"
-	"capstan/op"
+	"capstan/sample"
 )
 
 // The errors, as the chapter numbers them.
@@ -22,32 +22,11 @@ const (
 // call returns the instruction that calls the method k.
 func call(k int) api.Instr { return api.Instr{Op: api.OpCall, A: k} }
 
-// written returns the code that is written as in the chapters, with semicolons between; the empty text is empty code.
-func written(text string) []api.Instr {
-	var l []api.Instr
-	for line := range strings.SplitSeq(text, ";") {
-		words := strings.Fields(line)
-		if len(words) == 0 {
-			continue
-		}
-		opcode, is := op.Parse(words[0])
-		if !is {
-			panic(words[0])
-		}
-		i := api.Instr{Op: opcode}
-		if len(words) > 1 {
-			i.A, _ = strconv.Atoi(words[1])
-		}
-		l = append(l, i)
-	}
-	return l
-}
-
 // coded returns a module with a method of each code.
 func coded(texts ...string) api.Module {
 	m := api.Module{Migrate: -1}
 	for _, text := range texts {
-		m.Methods = append(m.Methods, api.Method{Result: api.KdInt, Code: written(text)})
+		m.Methods = append(m.Methods, api.Method{Result: api.KdInt, Code: sample.Code(text)})
 	}
 	return m
 }

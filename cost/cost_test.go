@@ -8,6 +8,7 @@ import (
 
 	"capstan/api"
 	"capstan/cost"
+	"capstan/sample"
 )
 
 // The limits stand in api as the document has them.
@@ -187,7 +188,7 @@ func TestChains(t *testing.T) {
 			down.Methods = append(down.Methods, methodOf("", "n", "const 0; call "+strconv.Itoa(k-1)+"; add; ret"))
 			certs = append(certs, api.Cert{Fuel: 4*k + 2, Stack: 2*k + 2})
 		}
-		down.Methods[0].Code, up.Methods[n-1].Code = written("const 0; ret"), written("const 0; ret")
+		down.Methods[0].Code, up.Methods[n-1].Code = sample.Code("const 0; ret"), sample.Code("const 0; ret")
 		compareCerts(t, down, certs...)
 		down.Methods = append(down.Methods, methodOf("", "", "call "+strconv.Itoa(n-1)+"; ret"), methodOf("p", "", "trap"))
 		compareCerts(t, down, append(slices.Clone(certs), api.Cert{Fuel: 4 * n, Stack: 2 * n}, api.Cert{Fuel: 1, Stack: 1})...)
@@ -195,9 +196,9 @@ func TestChains(t *testing.T) {
 		compareCerts(t, up, certs...)
 	}
 	m := coded(slices.Repeat([]string{"trap"}, 17)...)
-	m.Methods[3].Code = written("call 15; ret")
+	m.Methods[3].Code = sample.Code("call 15; ret")
 	compareError(t, m, 0)
-	m.Methods[3].Code = written("call 16; ret")
+	m.Methods[3].Code = sample.Code("call 16; ret")
 	compareError(t, m, badOp)
 }
 
@@ -309,7 +310,7 @@ func TestMost(t *testing.T) {
 		compareError(t, coded(fueled(maxFuel+beyond)), want)
 		compareError(t, coded("call 1; ret", fueled(maxFuel+beyond-2)), want)
 		compareError(t, with(methodOf("", "nnnnnnnnnnnnnnnn", "140* const 0; call 1; trap"), methodOf("", "", strconv.Itoa(maxStack+beyond-156)+"* const 0; trap")), want)
-		more := api.Method{Locals: make([]uint8, maxStack+beyond-100), Fuel: 200, Stack: 300, Code: written("100* const 0; trap")}
+		more := api.Method{Locals: make([]uint8, maxStack+beyond-100), Fuel: 200, Stack: 300, Code: sample.Code("100* const 0; trap")}
 		compareError(t, with(more), want)
 		compareError(t, coded("loop 51; const 0; new 20; pop; again 0; const 0; new "+strconv.Itoa(4+beyond)+"; trap"), want)
 		compareError(t, coded("loop 2; call 1; pop; again 0; const 0; new "+strconv.Itoa(4+beyond)+"; trap", "const 0; new 510; trap"), want)

@@ -7,13 +7,14 @@ import (
 
 	"capstan/api"
 	"capstan/cost"
+	"capstan/sample"
 )
 
 // holdDeclared holds what is told of m where its methods declare just what was told, and less, and more.
 func holdDeclared(t *testing.T, m api.Module) {
 	t.Helper()
 	certs := told(t, m)
-	exact := declaring(m, certs...)
+	exact := sample.Declaring(m, certs...)
 	if again, e := cost.Costs(exact); e != 0 || !slices.Equal(again, certs) || cost.Check(exact) != 0 {
 		t.Fatalf("%v %d, not %v, of %v", again, e, certs, exact)
 	}
@@ -23,7 +24,7 @@ func holdDeclared(t *testing.T, m api.Module) {
 		}
 		for n := range 3 {
 			for _, by := range []int{1, 1 << 40} {
-				less, other := declaring(exact), declaring(m)
+				less, other := sample.Declaring(exact), sample.Declaring(m)
 				lessen(&less.Methods[k], n, by)
 				other.Methods[k] = less.Methods[k]
 				for _, x := range []api.Module{less, other} {
@@ -31,7 +32,7 @@ func holdDeclared(t *testing.T, m api.Module) {
 						t.Fatalf("%v %d, of %v", l, e, x)
 					}
 				}
-				more := declaring(exact)
+				more := sample.Declaring(exact)
 				lessen(&more.Methods[k], n, -by)
 				if l, e := cost.Costs(more); e != 0 || !slices.Equal(l, certs) {
 					t.Fatalf("%v %d, not %v, of %v", l, e, certs, more)
@@ -59,12 +60,12 @@ func TestDeclaredElse(t *testing.T) {
 	for seed := range seeds / 4 {
 		m := grown(seed)
 		certs := told(t, m)
-		other := declaring(m, slices.Repeat([]api.Cert{{Fuel: math.MaxInt, Stack: math.MaxInt, Heap: math.MaxInt}}, len(m.Methods))...)
+		other := sample.Declaring(m, slices.Repeat([]api.Cert{{Fuel: math.MaxInt, Stack: math.MaxInt, Heap: math.MaxInt}}, len(m.Methods))...)
 		for k := range other.Methods {
 			other.Methods[k].Reads = k%2 == seed%2
 		}
 		other.Migrate = 99
-		other.Globals = append(slices.Clone(m.Globals), values("rrrrrr")...)
+		other.Globals = append(slices.Clone(m.Globals), sample.Values("rrrrrr")...)
 		if l, e := cost.Costs(other); e != 0 || !slices.Equal(l, certs) {
 			t.Fatalf("%v %d, not %v, of %v", l, e, certs, other)
 		}

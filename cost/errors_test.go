@@ -6,6 +6,7 @@ import (
 	"testing"
 
 	"capstan/api"
+	"capstan/sample"
 )
 
 // fault is the code of a method that brings about an error, in the place of each self a call of the method itself.
@@ -46,7 +47,7 @@ func (f fault) in(m api.Module, k int) {
 		if strings.TrimSpace(line) == "self" {
 			code = append(code, api.Instr{Op: api.OpCall, A: k})
 		} else {
-			code = append(code, written(line)...)
+			code = append(code, sample.Code(line)...)
 		}
 	}
 	m.Methods[k].Code = code
@@ -129,7 +130,7 @@ func TestCostAlone(t *testing.T) {
 	certs, _ := certsOf(sound())
 	for k := range certs {
 		for n := range 3 {
-			m := declaring(sound(), certs...)
+			m := sample.Declaring(sound(), certs...)
 			compareError(t, m, 0)
 			lessen(&m.Methods[k], n, 1)
 			compareError(t, m, badCost)

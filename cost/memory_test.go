@@ -6,50 +6,9 @@ import (
 
 	"capstan/api"
 	"capstan/cost"
+	"capstan/module"
+	"capstan/sample"
 )
-
-// twin returns a module equal to m in memory of its own; each of its slices has room behind it, which holds something else.
-func twin(m api.Module) api.Module {
-	m.Globals = append(slices.Clone(m.Globals), values("rpr")...)[:len(m.Globals)]
-	m.Pool = append(slices.Clone(m.Pool), values("rpr")...)[:len(m.Pool)]
-	m.Methods = append(slices.Clone(m.Methods), methodOf("n", "p", "trap"), api.Method{Fuel: 7})[:len(m.Methods)]
-	for k, x := range m.Methods {
-		x.Args = append(slices.Clone(x.Args), 9, 8, 7)[:len(x.Args)]
-		x.Locals = append(slices.Clone(x.Locals), 6, 5, 4)[:len(x.Locals)]
-		x.Code = append(slices.Clone(x.Code), written("new 9; call 0; trap")...)[:len(x.Code)]
-		m.Methods[k] = x
-	}
-	return m
-}
-
-// whole returns all memory of m, capacity included, as lists of their full length.
-func whole(m api.Module) api.Module {
-	m.Globals, m.Pool, m.Methods = m.Globals[:cap(m.Globals)], m.Pool[:cap(m.Pool)], slices.Clone(m.Methods[:cap(m.Methods)])
-	for k, x := range m.Methods {
-		x.Args, x.Locals, x.Code = x.Args[:cap(x.Args)], x.Locals[:cap(x.Locals)], x.Code[:cap(x.Code)]
-		m.Methods[k] = x
-	}
-	return m
-}
-
-// equalMethod tells whether two methods are equal, code included.
-func equalMethod(a, b api.Method) bool {
-	return slices.Equal(a.Args, b.Args) && slices.Equal(a.Locals, b.Locals) && slices.Equal(a.Code, b.Code) &&
-		a.Result == b.Result && a.Reads == b.Reads && a.Fuel == b.Fuel && a.Stack == b.Stack && a.Heap == b.Heap
-}
-
-// equal tells whether two modules are equal.
-func equal(a, b api.Module) bool {
-	return slices.Equal(a.Globals, b.Globals) && slices.Equal(a.Pool, b.Pool) && slices.EqualFunc(a.Methods, b.Methods, equalMethod) && a.Migrate == b.Migrate
-}
-
-// spoil writes something else into all memory of l, capacity included.
-func spoil[T any](l []T, x T) {
-	l = l[:cap(l)]
-	for i := range l {
-		l[i] = x
-	}
-}
 
 // modules returns modules with errors and without.
 func modules() []api.Module {
@@ -71,8 +30,8 @@ func modules() []api.Module {
 func TestPassed(t *testing.T) {
 	for _, m := range modules() {
 		want, e := cost.Costs(m)
-		passed := twin(m)
-		kept := twin(whole(passed))
+		passed := sample.Twin(m)
+		kept := sample.Twin(sample.Whole(passed))
 		certs, got := cost.Costs(passed)
 		if other := cost.Check(passed); !slices.Equal(certs, want) || got != e || other != e {
 			t.Errorf("%v %d %d, not %v %d, of %v", certs, got, other, want, e, m)
@@ -80,8 +39,8 @@ func TestPassed(t *testing.T) {
 		for k, x := range passed.Methods {
 			cost.Fits(api.Cert{Fuel: k}, x)
 		}
-		if !equal(whole(passed), kept) {
-			t.Fatalf("%v has changed, into %v", kept, whole(passed))
+		if !module.Same(sample.Whole(passed), kept) {
+			t.Fatalf("%v has changed, into %v", kept, sample.Whole(passed))
 		}
 	}
 }
@@ -89,26 +48,26 @@ func TestPassed(t *testing.T) {
 // What is returned is the caller's own: writing into it changes neither what was passed nor a later answer, and a later change of what was passed does not change it.
 func TestReturned(t *testing.T) {
 	for _, m := range modules() {
-		passed := twin(m)
-		kept := twin(whole(passed))
+		passed := sample.Twin(m)
+		kept := sample.Twin(sample.Whole(passed))
 		certs, e := cost.Costs(passed)
 		want := slices.Clone(certs)
-		spoil(certs, api.Cert{Fuel: -7, Stack: 99, Heap: 98})
-		if !equal(whole(passed), kept) {
-			t.Fatalf("%v has changed, into %v", kept, whole(passed))
+		sample.Spoil(certs, api.Cert{Fuel: -7, Stack: 99, Heap: 98})
+		if !module.Same(sample.Whole(passed), kept) {
+			t.Fatalf("%v has changed, into %v", kept, sample.Whole(passed))
 		}
 		certs, got := cost.Costs(passed)
 		if !slices.Equal(certs, want) || got != e {
 			t.Fatalf("%v %d, and then %v %d, of %v", want, e, certs, got, m)
 		}
 		another, _ := cost.Costs(passed)
-		spoil(another, api.Cert{Fuel: 1})
+		sample.Spoil(another, api.Cert{Fuel: 1})
 		for _, x := range passed.Methods {
-			spoil(x.Args, 9)
-			spoil(x.Locals, 9)
-			spoil(x.Code, api.Instr{Op: 9})
+			sample.Spoil(x.Args, 9)
+			sample.Spoil(x.Locals, 9)
+			sample.Spoil(x.Code, api.Instr{Op: 9})
 		}
-		spoil(passed.Methods, api.Method{Fuel: 9})
+		sample.Spoil(passed.Methods, api.Method{Fuel: 9})
 		if !slices.Equal(certs, want) {
 			t.Fatalf("%v has changed, into %v", want, certs)
 		}

@@ -4,8 +4,6 @@ import (
 	"iter"
 	"math/big"
 	"slices"
-	"strconv"
-	"strings"
 	"testing"
 
 	"capstan/api"
@@ -13,6 +11,7 @@ import (
 	"capstan/cost"
 	"capstan/flow"
 	"capstan/op"
+	"capstan/sample"
 	"capstan/types"
 )
 
@@ -34,61 +33,14 @@ const (
 	maxHeap  = 1024
 )
 
-// In these tests kinds are written as letters: n an integer, p a pair, r an array.
-const letters = "onpr"
-
-// kinds returns the kinds that are written so.
-func kinds(text string) []uint8 {
-	l := make([]uint8, len(text))
-	for i := range l {
-		l[i] = uint8(strings.IndexByte(letters, text[i]))
-	}
-	return l
-}
-
-// values returns values of the kinds that are written so.
-func values(text string) []api.Value {
-	l := make([]api.Value, len(text))
-	for i, kind := range kinds(text) {
-		l[i] = api.Value{Kind: kind, A: int64(i)}
-	}
-	return l
-}
-
-// written returns the code that is written as in the chapters, with semicolons between; the empty text is empty code. A word in front of an instruction, such as 3*, is how many times it stands there.
-func written(text string) []api.Instr {
-	var l []api.Instr
-	for line := range strings.SplitSeq(text, ";") {
-		words := strings.Fields(line)
-		if len(words) == 0 {
-			continue
-		}
-		times := 1
-		if often, is := strings.CutSuffix(words[0], "*"); is {
-			times, _ = strconv.Atoi(often)
-			words = words[1:]
-		}
-		opcode, is := op.Parse(words[0])
-		if !is {
-			panic(words[0])
-		}
-		i := api.Instr{Op: opcode}
-		if len(words) > 1 {
-			i.A, _ = strconv.Atoi(words[1])
-		}
-		l = append(l, slices.Repeat([]api.Instr{i}, times)...)
-	}
-	return l
-}
-
 // methodOf returns a method of these kinds whose result is an integer; it declares as much as may be.
 func methodOf(args, locals, text string) api.Method {
-	return api.Method{Args: kinds(args), Locals: kinds(locals), Result: api.KdInt, Fuel: maxFuel, Stack: maxStack, Heap: maxHeap, Code: written(text)}
+	return api.Method{Args: sample.Kinds(args), Locals: sample.Kinds(locals), Result: api.KdInt, Fuel: maxFuel, Stack: maxStack, Heap: maxHeap, Code: sample.Code(text)}
 }
 
 // with returns a module of these methods, with globals np and constants npn.
 func with(l ...api.Method) api.Module {
-	return api.Module{Globals: values("np"), Pool: values("npn"), Methods: l, Migrate: -1}
+	return api.Module{Globals: sample.Values("np"), Pool: sample.Values("npn"), Methods: l, Migrate: -1}
 }
 
 // coded returns a module with a method without arguments and locals of each code.
@@ -100,25 +52,10 @@ func coded(texts ...string) api.Module {
 	return m
 }
 
-// declaring returns a copy of m whose methods declare these certificates.
-func declaring(m api.Module, certs ...api.Cert) api.Module {
-	m.Methods = slices.Clone(m.Methods)
-	for k, c := range certs {
-		x := &m.Methods[k]
-		x.Fuel, x.Stack, x.Heap = c.Fuel, c.Stack, c.Heap
-	}
-	return m
-}
-
-// open returns a copy of m whose methods declare as much as may be.
-func open(m api.Module) api.Module {
-	return declaring(m, slices.Repeat([]api.Cert{{Fuel: maxFuel, Stack: maxStack, Heap: maxHeap}}, len(m.Methods))...)
-}
-
 // replaced returns a copy of m in which the method k has that code.
 func replaced(m api.Module, k int, text string) api.Module {
 	m.Methods = slices.Clone(m.Methods)
-	m.Methods[k].Code = written(text)
+	m.Methods[k].Code = sample.Code(text)
 	return m
 }
 
@@ -249,7 +186,7 @@ func (d *dice) below(n int) int {
 }
 
 // pick returns one of the letters.
-func (d *dice) pick(text string) uint8 { return kinds(text)[d.below(len(text))] }
+func (d *dice) pick(text string) uint8 { return sample.Kinds(text)[d.below(len(text))] }
 
 // some returns up to n kinds.
 func (d *dice) some(n int) []uint8 {
@@ -345,7 +282,7 @@ func (g *grower) add(i api.Instr) {
 
 // choices returns instructions of a method of so many locals that go on to the next one, calls of these methods among them.
 func choices(locals int, lower []int) []api.Instr {
-	l := written("nop; const 0; const 1; const 2; load 0; load 1; store 0; store 1; pop; dup; swap; add; less; pair; re; im; padd; conj; new 0; new 1; new 7; at; put; len")
+	l := sample.Code("nop; const 0; const 1; const 2; load 0; load 1; store 0; store 1; pop; dup; swap; add; less; pair; re; im; padd; conj; new 0; new 1; new 7; at; put; len")
 	for at := range locals {
 		l = append(l, api.Instr{Op: api.OpGet, A: at}, api.Instr{Op: api.OpSet, A: at})
 	}
@@ -400,7 +337,7 @@ func (g *grower) drop(base int) {
 // dead appends instructions that are not reached, whatever they take.
 func (g *grower) dead() {
 	for range g.below(3) {
-		g.code = append(g.code, append(written("new 5; ret; trap 3"), g.choice...)[g.below(len(g.choice)+3)])
+		g.code = append(g.code, append(sample.Code("new 5; ret; trap 3"), g.choice...)[g.below(len(g.choice)+3)])
 	}
 }
 
@@ -526,7 +463,7 @@ func small() iter.Seq[api.Module] {
 	return func(yield func(api.Module) bool) {
 		m := with(methodOf("", "", ""), methodOf("", "", "const 0; zero 5; const 0; new 3; pop; const 0; ret"), methodOf("n", "", "get 0; dup; add; ret"))
 		for n := range 5 {
-			of := written("const 0; pop; dup; add; new 2; loop 3; call 1; call 2; trap")
+			of := sample.Code("const 0; pop; dup; add; new 2; loop 3; call 1; call 2; trap")
 			for a := range n + 1 {
 				of = append(of, api.Instr{Op: api.OpAgain, A: a}, api.Instr{Op: api.OpJump, A: a}, api.Instr{Op: api.OpZero, A: a})
 			}

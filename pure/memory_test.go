@@ -7,53 +7,8 @@ import (
 	"capstan/api"
 	"capstan/module"
 	"capstan/pure"
+	"capstan/sample"
 )
-
-// roomy returns an equal list in memory of its own, with room behind it that holds what is told.
-func roomy[T any](l []T, behind ...T) []T {
-	return append(slices.Clone(l), behind...)[:len(l)]
-}
-
-// twin returns a module equal to m in memory of its own; each of its slices has room behind it, which holds something else: methods that could be called, and code that stores and calls.
-func twin(m api.Module) api.Module {
-	m.Globals, m.Pool = roomy(m.Globals, api.Value{Kind: 9}, api.Value{Kind: 8}), roomy(m.Pool, api.Value{Kind: 7}, api.Value{Kind: 6})
-	m.Methods = roomy(m.Methods, api.Method{Reads: true, Code: []api.Instr{store}}, api.Method{Fuel: 7})
-	for k, x := range m.Methods {
-		x.Args, x.Locals, x.Code = roomy(x.Args, 9, 8, 7), roomy(x.Locals, 6, 5, 4), roomy(x.Code, store, call(-7), call(0))
-		m.Methods[k] = x
-	}
-	return m
-}
-
-// whole returns all memory of m, capacity included, as lists of their full length.
-func whole(m api.Module) api.Module {
-	m.Globals, m.Pool, m.Methods = m.Globals[:cap(m.Globals)], m.Pool[:cap(m.Pool)], slices.Clone(m.Methods[:cap(m.Methods)])
-	for k, x := range m.Methods {
-		x.Args, x.Locals, x.Code = x.Args[:cap(x.Args)], x.Locals[:cap(x.Locals)], x.Code[:cap(x.Code)]
-		m.Methods[k] = x
-	}
-	return m
-}
-
-// spoil writes something else into all memory of l, capacity included.
-func spoil[T any](l []T, x T) {
-	l = l[:cap(l)]
-	for i := range l {
-		l[i] = x
-	}
-}
-
-// spoilModule writes something else into all memory of m, capacity included.
-func spoilModule(m api.Module) {
-	spoil(m.Globals, api.Value{Kind: 99})
-	spoil(m.Pool, api.Value{Kind: 98})
-	for _, x := range m.Methods[:cap(m.Methods)] {
-		spoil(x.Args, 97)
-		spoil(x.Locals, 96)
-		spoil(x.Code, api.Instr{Op: 95})
-	}
-	spoil(m.Methods, api.Method{Fuel: 94, Reads: true})
-}
 
 // answer is what all functions return for a module.
 type answer struct {
@@ -103,13 +58,13 @@ func modules() []api.Module {
 func TestPassed(t *testing.T) {
 	for _, m := range modules() {
 		want := ask(m)
-		passed := twin(m)
-		kept := twin(whole(passed))
+		passed := sample.Twin(m)
+		kept := sample.Twin(sample.Whole(passed))
 		if got := ask(passed); !got.same(want) {
 			t.Errorf("%v, not %v, of %v", got, want, m)
 		}
-		if !module.Same(whole(passed), kept) {
-			t.Fatalf("%v has changed, into %v", kept, whole(passed))
+		if !module.Same(sample.Whole(passed), kept) {
+			t.Fatalf("%v has changed, into %v", kept, sample.Whole(passed))
 		}
 	}
 }
@@ -117,19 +72,19 @@ func TestPassed(t *testing.T) {
 // P13.3: what is returned is the caller's own: writing into it changes neither what was passed nor a later answer.
 func TestReturned(t *testing.T) {
 	for _, m := range modules() {
-		passed := twin(m)
-		kept := twin(whole(passed))
+		passed := sample.Twin(m)
+		kept := sample.Twin(sample.Whole(passed))
 		got := ask(passed)
 		want := got.copied()
-		spoil(got.pure, true)
-		spoilModule(got.said)
-		if !module.Same(whole(passed), kept) {
-			t.Fatalf("%v has changed, into %v", kept, whole(passed))
+		sample.Spoil(got.pure, true)
+		sample.SpoilModule(got.said)
+		if !module.Same(sample.Whole(passed), kept) {
+			t.Fatalf("%v has changed, into %v", kept, sample.Whole(passed))
 		}
 		if got := ask(passed); !got.same(want) {
 			t.Fatalf("%v, and then %v, of %v", want, got, m)
 		}
-		spoil(got.pure, false)
+		sample.Spoil(got.pure, false)
 		if got := ask(passed); !got.same(want) {
 			t.Fatalf("%v, and then %v, of %v", want, got, m)
 		}
@@ -139,10 +94,10 @@ func TestReturned(t *testing.T) {
 // P13.3: a later change of what was passed does not change what was returned.
 func TestKept(t *testing.T) {
 	for _, m := range modules() {
-		passed := twin(m)
+		passed := sample.Twin(m)
 		got := ask(passed)
 		want := got.copied()
-		spoilModule(passed)
+		sample.SpoilModule(passed)
 		if !got.same(want) {
 			t.Fatalf("%v has changed, into %v", want, got)
 		}
@@ -154,8 +109,8 @@ func TestApart(t *testing.T) {
 	for _, m := range modules() {
 		first, second := ask(m), ask(m)
 		want := second.copied()
-		spoil(first.pure, true)
-		spoilModule(first.said)
+		sample.Spoil(first.pure, true)
+		sample.SpoilModule(first.said)
 		if !second.same(want) {
 			t.Fatalf("%v has changed, into %v", want, second)
 		}
@@ -168,12 +123,12 @@ func TestApart(t *testing.T) {
 	if e != 0 || !module.Same(w, want) {
 		t.Fatalf("%v %d", w, e)
 	}
-	spoil(w.Globals, api.Value{Kind: 9})
+	sample.Spoil(w.Globals, api.Value{Kind: 9})
 	for k := range 2 {
-		spoil(w.Methods[k].Args, 9)
-		spoil(w.Methods[k].Code, store)
+		sample.Spoil(w.Methods[k].Args, 9)
+		sample.Spoil(w.Methods[k].Code, store)
 	}
-	spoil(w.Methods[2].Locals, 9)
+	sample.Spoil(w.Methods[2].Locals, 9)
 	if !slices.Equal(w.Pool, want.Pool) || !slices.Equal(w.Methods[0].Locals, kinds[1:]) || !slices.Equal(w.Methods[2].Args, kinds[:2]) || !slices.Equal(w.Methods[2].Code, code) {
 		t.Errorf("%v shares memory with itself", w)
 	}

@@ -9,6 +9,7 @@ import (
 
 	"capstan/api"
 	"capstan/op"
+	"capstan/sample"
 	"capstan/types"
 )
 
@@ -24,7 +25,7 @@ func compareError(t *testing.T, m api.Module, k int, want api.Errno) {
 func compareTexts(t *testing.T, want api.Errno, texts ...string) {
 	t.Helper()
 	for _, text := range texts {
-		compareError(t, with(written(text)), 0, want)
+		compareError(t, with(sample.Code(text)), 0, want)
 	}
 }
 
@@ -39,7 +40,7 @@ func TestCheckExamples(t *testing.T) {
 		{"add; ret", badStack},
 		{"get 0; zero 3; const 0; ret", badType},
 	} {
-		m := alone(methodOf("n", "", "n", written(x.text)))
+		m := alone(methodOf("n", "", "n", sample.Code(x.text)))
 		m.Pool = values("n")
 		compareError(t, m, 0, x.want)
 	}
@@ -47,7 +48,7 @@ func TestCheckExamples(t *testing.T) {
 
 // P10.1: an index of no method is ErrArg, whatever there is besides; the other methods do not matter.
 func TestCheckIndex(t *testing.T) {
-	good, bad := methodOf("", "", "n", written("trap")), methodOf("", "", "n", written("again 0; add; const 31"))
+	good, bad := methodOf("", "", "n", sample.Code("trap")), methodOf("", "", "n", sample.Code("again 0; add; const 31"))
 	for _, n := range []int{0, 1, 2, 16, 17, 40} {
 		for _, x := range []api.Method{good, bad} {
 			m := api.Module{Methods: slices.Repeat([]api.Method{x}, n), Migrate: -1}
@@ -71,15 +72,15 @@ func TestCheckIndex(t *testing.T) {
 func badCodes() map[api.Errno][][]api.Instr {
 	return map[api.Errno][][]api.Instr{
 		badOp: {
-			nil, {}, slices.Repeat(written("trap"), 201), append(slices.Repeat(written("get 5"), 200), written("ret")...),
+			nil, {}, slices.Repeat(sample.Code("trap"), 201), append(slices.Repeat(sample.Code("get 5"), 200), sample.Code("ret")...),
 			{{Op: api.OpCount}, {Op: api.OpRet}}, {{Op: 255}, {Op: api.OpRet}}, {{Op: api.OpNop, B: 1}, {Op: api.OpRet}}, {{Op: api.OpTrap, A: 256}},
-			written("get 16; ret"), written("set -1; ret"), written("const 32; ret"), written("const -1; ret"), written("load 4; ret"), written("store -1; ret"), written("call 16; ret"), written("call -1; ret"),
-			written("add; loop 0; jump 0"), written("nop; dup 1; nop"),
+			sample.Code("get 16; ret"), sample.Code("set -1; ret"), sample.Code("const 32; ret"), sample.Code("const -1; ret"), sample.Code("load 4; ret"), sample.Code("store -1; ret"), sample.Code("call 16; ret"), sample.Code("call -1; ret"),
+			sample.Code("add; loop 0; jump 0"), sample.Code("nop; dup 1; nop"),
 		},
 		badJump: {
-			written("nop"), written("ret; add"), written("jump 0; ret"), written("jump 2; ret"), written("nop; zero 1; ret"), written("zero 2; loop 3; again 1; ret"),
-			written("loop 3; ret"), written("again 0; ret"), written("nop; again 0; ret"), written("loop 2; loop 2; again 0; again 1; ret"), written("loop 3; again 0; again 0; ret"),
-			written("loop 2; loop 2; loop 2; loop 2; loop 2; again 4; again 3; again 2; again 1; again 0; ret"),
+			sample.Code("nop"), sample.Code("ret; add"), sample.Code("jump 0; ret"), sample.Code("jump 2; ret"), sample.Code("nop; zero 1; ret"), sample.Code("zero 2; loop 3; again 1; ret"),
+			sample.Code("loop 3; ret"), sample.Code("again 0; ret"), sample.Code("nop; again 0; ret"), sample.Code("loop 2; loop 2; again 0; again 1; ret"), sample.Code("loop 3; again 0; again 0; ret"),
+			sample.Code("loop 2; loop 2; loop 2; loop 2; loop 2; again 4; again 3; again 2; again 1; again 0; ret"),
 		},
 	}
 }
@@ -93,8 +94,8 @@ func TestCheckNotWellFormed(t *testing.T) {
 			compareError(t, alone(methodOf("", "", "x", l)), 0, want)
 			compareError(t, alone(methodOf("", "", "x", l)), 1, badArg)
 			for _, text := range []string{"const 9", "get 15", "set 9", "load 3", "store 3", "call 9", "add", "get 2; re; conj"} {
-				compare(t, with(slices.Concat(l, written(text))), 0)
-				compare(t, with(slices.Concat(written(text), l)), 0)
+				compare(t, with(slices.Concat(l, sample.Code(text))), 0)
+				compare(t, with(slices.Concat(sample.Code(text), l)), 0)
 			}
 		}
 	}
@@ -107,7 +108,7 @@ func sized(pool, args, locals, globals, methods int, code []api.Instr) api.Modul
 	n := func(count int) string { return strings.Repeat("n", count) }
 	m := api.Module{Globals: values(n(globals)), Pool: values(n(pool)), Methods: []api.Method{methodOf(n(args), n(locals), "n", code)}, Migrate: -1}
 	for len(m.Methods) < methods {
-		m.Methods = append(m.Methods, methodOf("", "", "n", written("trap")))
+		m.Methods = append(m.Methods, methodOf("", "", "n", sample.Code("trap")))
 	}
 	return m
 }
@@ -157,16 +158,16 @@ func TestCheckOperands(t *testing.T) {
 		this := x.name + " " + strconv.Itoa(x.n)
 		if x.n <= most {
 			for _, text := range []string{this + "; trap", "trap; " + this + "; trap", "jump 2; " + this + "; trap", "ret; " + this + "; ret", "trap; nop; pop; " + this + "; ret", "add; " + this + "; trap", this + "; add; trap", "trap; " + this + "; " + this + "; add; ret"} {
-				compareError(t, x.m(written(text)), 0, badType)
+				compareError(t, x.m(sample.Code(text)), 0, badType)
 			}
-			compareError(t, x.m(slices.Concat(written("trap"), written(this), slices.Repeat(written("ret"), 198))), 0, badType)
-			compareError(t, x.m(slices.Concat(slices.Repeat(written("trap"), 198), written(this), written("ret"))), 0, badType)
+			compareError(t, x.m(slices.Concat(sample.Code("trap"), sample.Code(this), slices.Repeat(sample.Code("ret"), 198))), 0, badType)
+			compareError(t, x.m(slices.Concat(slices.Repeat(sample.Code("trap"), 198), sample.Code(this), sample.Code("ret"))), 0, badType)
 		}
 		if last := min(x.n-1, most); last >= 0 {
 			this := x.name + " " + strconv.Itoa(last)
-			compareError(t, x.m(written("trap; "+this+"; trap")), 0, 0)
-			compareError(t, x.m(written("trap; "+this+"; add; ret")), 0, 0)
-			compareError(t, x.m(written(this+"; add; ret")), 0, badStack)
+			compareError(t, x.m(sample.Code("trap; "+this+"; trap")), 0, 0)
+			compareError(t, x.m(sample.Code("trap; "+this+"; add; ret")), 0, 0)
+			compareError(t, x.m(sample.Code(this+"; add; ret")), 0, badStack)
 		}
 	}
 }
@@ -181,10 +182,10 @@ func TestCheckNumbering(t *testing.T) {
 			if e != 0 || len(rows) != 2 || !slices.Equal(rows[1].Kinds, []uint8{want}) {
 				t.Errorf("get %d of %q: %v %d", a, args, rows, e)
 			}
-			m.Methods[0].Code = append([]api.Instr{{Op: api.OpGet, A: a}, {Op: api.OpSet, A: a}}, written("trap")...)
+			m.Methods[0].Code = append([]api.Instr{{Op: api.OpGet, A: a}, {Op: api.OpSet, A: a}}, sample.Code("trap")...)
 			compareError(t, m, 0, 0)
 		}
-		m.Methods[0].Code = written("get " + strconv.Itoa(n+3) + "; trap")
+		m.Methods[0].Code = sample.Code("get " + strconv.Itoa(n+3) + "; trap")
 		compareError(t, m, 0, badType)
 	}
 }
@@ -251,7 +252,7 @@ func allSuits() []suits {
 // P10.1: each instruction on just what it takes, with other values below, with one value too few, and with one of another kind at each place.
 func TestCheckSuits(t *testing.T) {
 	for _, x := range allSuits() {
-		i := written(x.text)[0]
+		i := sample.Code(x.text)[0]
 		for _, below := range []string{"", "n", "p", "r", "rpn"} {
 			l := around(pushes(below+x.takes), i)
 			rows, e := types.Rows(with(l), 0)
@@ -285,7 +286,7 @@ func TestCheckAny(t *testing.T) {
 		{"dup", "n", "nn"}, {"dup", "p", "pp"}, {"dup", "r", "rr"}, {"dup", "np", "npp"}, {"dup", "pr", "prr"}, {"dup", "rpn", "rpnn"},
 		{"swap", "nn", "nn"}, {"swap", "np", "pn"}, {"swap", "pn", "np"}, {"swap", "nr", "rn"}, {"swap", "rn", "nr"}, {"swap", "pr", "rp"}, {"swap", "rp", "pr"}, {"swap", "npr", "nrp"}, {"swap", "rpn", "rnp"}, {"swap", "pprn", "ppnr"},
 	} {
-		rows, e := types.Rows(with(around(pushes(x.before), written(x.text)[0])), 0)
+		rows, e := types.Rows(with(around(pushes(x.before), sample.Code(x.text)[0])), 0)
 		if e != 0 || string(rows[len(rows)-1].Kinds) != string(kinds(x.after)) {
 			t.Errorf("%s of %s: %v %d", x.text, x.before, rows, e)
 		}
@@ -298,8 +299,8 @@ func TestCheckCalls(t *testing.T) {
 	args := ""
 	for n := range 12 {
 		m := with(nil)
-		m.Methods[3] = methodOf(args, "n", "r", written("add"))
-		call := written("call 3; len; ret")
+		m.Methods[3] = methodOf(args, "n", "r", sample.Code("add"))
+		call := sample.Code("call 3; len; ret")
 		m.Methods[0].Code = append(pushes(args), call...)
 		compareError(t, m, 0, 0)
 		m.Methods[0].Code = append(pushes("p"+args), call...)
@@ -315,9 +316,9 @@ func TestCheckCalls(t *testing.T) {
 	compareTexts(t, 0, "get 0; get 1; call 0; ret", "get 2; get 0; get 1; call 0; ret", "call 2; ret", "get 1; call 3; ret", "get 0; get 2; get 1; call 2; call 4; im; ret")
 	compareTexts(t, badType, "get 1; get 0; call 0; ret", "get 0; get 1; call 0; re; ret", "get 0; get 1; swap; call 0; ret", "get 0; call 3; ret", "get 0; get 2; call 1; re; ret", "get 2; get 0; call 1; ret", "call 5; ret")
 	compareTexts(t, badStack, "call 0; ret", "get 1; call 0; ret", "get 0; call 0; ret", "call 3; ret", "get 2; get 1; get 0; call 4; re; ret", "call 2; call 4; ret")
-	self := alone(methodOf("", "", "p", written("call 0; call 0; padd; ret")))
+	self := alone(methodOf("", "", "p", sample.Code("call 0; call 0; padd; ret")))
 	compareError(t, self, 0, 0)
-	many := sized(0, 0, 0, 0, 40, written("call 15; trap"))
+	many := sized(0, 0, 0, 0, 40, sample.Code("call 15; trap"))
 	many.Methods[15] = methodOf(strings.Repeat("n", 100000), "", "n", nil)
 	compareError(t, many, 0, badStack)
 }
@@ -326,7 +327,7 @@ func TestCheckCalls(t *testing.T) {
 func TestCheckRet(t *testing.T) {
 	for _, result := range []string{"n", "p", "r", "o", "x"} {
 		for text := range stacks {
-			m := with(append(pushes(text), written("ret")...))
+			m := with(append(pushes(text), sample.Code("ret")...))
 			m.Methods[0].Result = kindOf(result[0])
 			want := badType
 			if text == "" {
@@ -353,10 +354,10 @@ func TestCheckMeets(t *testing.T) {
 			// zero X; one; jump Y; X: other; Y: trap
 			x := 3 + len(one)
 			y := x + len(other)
-			l := slices.Concat(written("get 0"), []api.Instr{{Op: api.OpZero, A: x}}, pushes(one), []api.Instr{{Op: api.OpJump, A: y}}, pushes(other), written("trap"))
+			l := slices.Concat(sample.Code("get 0"), []api.Instr{{Op: api.OpZero, A: x}}, pushes(one), []api.Instr{{Op: api.OpJump, A: y}}, pushes(other), sample.Code("trap"))
 			compareError(t, with(l), 0, want)
 			// Under it a row that is the same on both ways.
-			l = slices.Concat(written("get 2; get 0"), []api.Instr{{Op: api.OpZero, A: x + 1}}, pushes(one), []api.Instr{{Op: api.OpJump, A: y + 1}}, pushes(other), written("trap"))
+			l = slices.Concat(sample.Code("get 2; get 0"), []api.Instr{{Op: api.OpZero, A: x + 1}}, pushes(one), []api.Instr{{Op: api.OpJump, A: y + 1}}, pushes(other), sample.Code("trap"))
 			compareError(t, with(l), 0, want)
 		}
 	}
@@ -387,20 +388,20 @@ func TestCheckLoops(t *testing.T) {
 func TestCheckUnreached(t *testing.T) {
 	wrong := []string{"add", "pop", "dup", "swap", "set 0", "store 1", "call 0", "call 4", "ret", "put", "conj", "re; new 3", "len", "zero 0", "get 0; add; pair", "at; get 2; ret"}
 	for _, text := range wrong {
-		dead := written(text)
+		dead := sample.Code(text)
 		for n, i := range dead {
 			if i.Op == api.OpZero {
 				dead[n].A = 5 // which is an index of each code below, behind this one
 			}
 		}
-		end := written("nop; nop; nop; nop; get 0; ret")
+		end := sample.Code("nop; nop; nop; nop; get 0; ret")
 		compareError(t, with(slices.Concat([]api.Instr{{Op: api.OpJump, A: 1 + len(dead)}}, dead, end)), 0, 0)
-		compareError(t, with(slices.Concat(written("get 0; ret"), dead, end)), 0, 0)
-		compareError(t, with(slices.Concat(written("trap 3"), dead, end)), 0, 0)
+		compareError(t, with(slices.Concat(sample.Code("get 0; ret"), dead, end)), 0, 0)
+		compareError(t, with(slices.Concat(sample.Code("trap 3"), dead, end)), 0, 0)
 		compareError(t, with(slices.Concat(dead, end)), 0, badStack)
 		for _, lack := range []string{"const 3", "get 5", "set 5", "load 2", "store 2", "call 5"} {
-			compareError(t, with(slices.Concat(written("trap 3"), dead, written(lack), end)), 0, badType)
-			compareError(t, with(slices.Concat([]api.Instr{{Op: api.OpJump, A: 2 + len(dead)}}, written(lack), dead, end)), 0, badType)
+			compareError(t, with(slices.Concat(sample.Code("trap 3"), dead, sample.Code(lack), end)), 0, badType)
+			compareError(t, with(slices.Concat([]api.Instr{{Op: api.OpJump, A: 2 + len(dead)}}, sample.Code(lack), dead, end)), 0, badType)
 		}
 	}
 	// What is not reached leads nowhere: its target has the row of those that are.
@@ -430,14 +431,14 @@ func TestCheckStrange(t *testing.T) {
 			"get 1; ret", "get 2; set 1; trap", "const 2; set 2; trap", "load 1; store 1; trap", "get 1; call 1; ret", "get 1; pop; trap", "get 1; dup; swap; call 1; ret", "get 1; get 0; swap; ret", "get 0; get 1; ret",
 			"get 0; zero 4; get 1; ret; const 2; ret", "get 1; loop 2; pop; load 1; again 1; ret",
 		} {
-			m.Methods[0].Code = written(text)
+			m.Methods[0].Code = sample.Code(text)
 			compareError(t, m, 0, 0)
 		}
 		for _, text := range []string{
 			"get 0; ret", "get 3; ret", "get 4; ret", "get 0; set 1; trap", "get 1; set 0; trap", "get 1; set 3; trap", "get 4; set 2; trap", "get 0; store 1; trap", "load 1; store 0; trap", "const 1; call 1; trap", "get 4; call 1; ret", "get 0; call 1; ret",
 			"get 1; get 0; add; trap", "get 0; get 1; add; trap", "get 1; conj; trap", "get 1; len; trap", "get 1; zero 2; trap", "get 0; get 0; zero 4; pop; get 1; trap", "get 0; get 0; zero 5; pop; get 1; trap", "get 1; get 0; zero 5; pop; get 0; trap",
 		} {
-			m.Methods[0].Code = written(text)
+			m.Methods[0].Code = sample.Code(text)
 			compareError(t, m, 0, badType)
 		}
 	}
@@ -462,6 +463,6 @@ func TestCheckSamples(t *testing.T) {
 		}
 	}
 	for k := range 7 {
-		compare(t, with(written("trap")), k-1)
+		compare(t, with(sample.Code("trap")), k-1)
 	}
 }

@@ -7,6 +7,7 @@ import (
 	"capstan/api"
 	"capstan/flow"
 	"capstan/op"
+	"capstan/sample"
 	"capstan/types"
 )
 
@@ -19,7 +20,7 @@ func calls(l []api.Instr, k int) bool {
 func others(m api.Module) []api.Module {
 	var l []api.Module
 	change := func(change func(m *api.Module)) {
-		other := twin(m)
+		other := sample.Twin(m)
 		change(&other)
 		l = append(l, other)
 	}
@@ -37,7 +38,7 @@ func others(m api.Module) []api.Module {
 		x := &m.Methods[0]
 		x.Reads, x.Fuel, x.Stack, x.Heap = !x.Reads, -1, 1<<40, 1025
 	})
-	for _, code := range [][]api.Instr{nil, written("trap"), written("again 0; add"), written("get 15; call 15; ret"), slices.Repeat(written("ret"), 300)} {
+	for _, code := range [][]api.Instr{nil, sample.Code("trap"), sample.Code("again 0; add"), sample.Code("get 15; call 15; ret"), slices.Repeat(sample.Code("ret"), 300)} {
 		change(func(m *api.Module) {
 			for k := range m.Methods[1:] {
 				x := &m.Methods[k+1]
@@ -80,7 +81,7 @@ func TestDepends(t *testing.T) {
 	}
 	for text := range stacks {
 		for _, x := range allSuits() {
-			holdEqual(around(pushes(text), written(x.text)[0]))
+			holdEqual(around(pushes(text), sample.Code(x.text)[0]))
 		}
 	}
 }
@@ -104,7 +105,7 @@ func TestDependsOn(t *testing.T) {
 		{"get 0; set 3; trap", func(m *api.Module) { m.Methods[0].Locals[1] = api.KdRef }},
 		{"get 0; store 0; trap", func(m *api.Module) { m.Globals[0].Kind = api.KdRef }},
 	} {
-		m := with(written(x.text))
+		m := with(sample.Code(x.text))
 		rows, e := types.Rows(m, 0)
 		x.change(&m)
 		other, found := types.Rows(m, 0)
@@ -164,7 +165,7 @@ func TestReplaced(t *testing.T) {
 // P10.5: an operand that does not exist is ErrType there, too.
 func TestReplacedMissing(t *testing.T) {
 	for _, text := range []string{"get 0; ret; nop; ret", "jump 2; nop; get 0; ret", "trap; nop; trap", "loop 2; jump 3; nop; again 0; trap; nop; ret"} {
-		l := written(text)
+		l := sample.Code(text)
 		rows, e := types.Rows(with(l), 0)
 		if e != 0 {
 			t.Fatalf("%d, of %s", e, text)
@@ -173,7 +174,7 @@ func TestReplacedMissing(t *testing.T) {
 			if r.Reached || l[at].Op != api.OpNop {
 				continue
 			}
-			for _, lack := range written("const 3; get 5; set 5; load 2; store 2; call 5") {
+			for _, lack := range sample.Code("const 3; get 5; set 5; load 2; store 2; call 5") {
 				other := slices.Clone(l)
 				other[at] = lack
 				compareError(t, with(other), 0, badType)

@@ -5,44 +5,17 @@ import (
 	"testing"
 
 	"capstan/api"
+	"capstan/module"
+	"capstan/sample"
 	"capstan/types"
 )
-
-// spoil writes something else into all memory of l, capacity included.
-func spoil[T any](l []T, x T) {
-	l = l[:cap(l)]
-	for i := range l {
-		l[i] = x
-	}
-}
 
 // spoilRows writes something else into all memory of the rows.
 func spoilRows(rows []types.Row) {
 	for _, r := range rows {
-		spoil(r.Kinds, 99)
+		sample.Spoil(r.Kinds, 99)
 	}
-	spoil(rows, types.Row{Reached: true, Kinds: kinds("xox")})
-}
-
-// whole returns all memory of m, capacity included, as modules, methods and lists of their full length.
-func whole(m api.Module) api.Module {
-	m.Globals, m.Pool, m.Methods = m.Globals[:cap(m.Globals)], m.Pool[:cap(m.Pool)], slices.Clone(m.Methods[:cap(m.Methods)])
-	for i, x := range m.Methods {
-		x.Args, x.Locals, x.Code = x.Args[:cap(x.Args)], x.Locals[:cap(x.Locals)], x.Code[:cap(x.Code)]
-		m.Methods[i] = x
-	}
-	return m
-}
-
-// equalMethod tells whether two methods are equal, code included.
-func equalMethod(a, b api.Method) bool {
-	return slices.Equal(a.Args, b.Args) && slices.Equal(a.Locals, b.Locals) && slices.Equal(a.Code, b.Code) &&
-		a.Result == b.Result && a.Reads == b.Reads && a.Fuel == b.Fuel && a.Stack == b.Stack && a.Heap == b.Heap
-}
-
-// equal tells whether two modules are equal.
-func equal(a, b api.Module) bool {
-	return slices.Equal(a.Globals, b.Globals) && slices.Equal(a.Pool, b.Pool) && slices.EqualFunc(a.Methods, b.Methods, equalMethod) && a.Migrate == b.Migrate
+	sample.Spoil(rows, types.Row{Reached: true, Kinds: kinds("xox")})
 }
 
 // equalRow tells whether two rows are.
@@ -66,19 +39,19 @@ func modules() []api.Module {
 		"get 0; get 0; zero 4; dup; swap; add; ret", "get 0; dup; nop; nop; loop 2; nop; again 4; zero 9; nop; ret", "get 2; get 1; get 0; nop; zero 6; nop; pop; re; ret", "jump 2; add; nop; get 0; zero 6; nop; trap", "trap",
 		"get 0; get 1; get 2; get 1; get 0; put; trap", "add; ret", "get 9; ret", "nop", "again 0",
 	} {
-		l = append(l, with(written(text)))
+		l = append(l, with(sample.Code(text)))
 	}
 	for seed := range 50 {
 		l = append(l, with(grown(seed)), with(changed(seed, grown(seed))))
 	}
-	return append(l, with(append(slices.Repeat(written("get 0"), 199), written("ret")...)), api.Module{})
+	return append(l, with(append(slices.Repeat(sample.Code("get 0"), 199), sample.Code("ret")...)), api.Module{})
 }
 
 // What is passed stays as it was, and so does what stands behind its lists; the answer does not hang on that.
 func TestPassed(t *testing.T) {
 	for _, m := range modules() {
-		passed := twin(m)
-		kept := twin(whole(passed))
+		passed := sample.Twin(m)
+		kept := sample.Twin(sample.Whole(passed))
 		for k := -1; k <= len(m.Methods); k++ {
 			want, e := types.Rows(m, k)
 			rows, got := types.Rows(passed, k)
@@ -92,8 +65,8 @@ func TestPassed(t *testing.T) {
 			}
 			spoilRows(rows)
 		}
-		if !equal(whole(passed), kept) {
-			t.Fatalf("%v has changed, into %v", kept, whole(passed))
+		if !module.Same(sample.Whole(passed), kept) {
+			t.Fatalf("%v has changed, into %v", kept, sample.Whole(passed))
 		}
 	}
 }
@@ -102,17 +75,17 @@ func TestPassed(t *testing.T) {
 func TestReturned(t *testing.T) {
 	for _, m := range modules() {
 		for k := range m.Methods {
-			passed := twin(m)
+			passed := sample.Twin(m)
 			rows, e := types.Rows(passed, k)
 			kept := copied(rows)
-			spoil(passed.Globals, api.Value{Kind: 9})
-			spoil(passed.Pool, api.Value{Kind: 9})
+			sample.Spoil(passed.Globals, api.Value{Kind: 9})
+			sample.Spoil(passed.Pool, api.Value{Kind: 9})
 			for _, x := range passed.Methods {
-				spoil(x.Args, 9)
-				spoil(x.Locals, 9)
-				spoil(x.Code, api.Instr{Op: 9})
+				sample.Spoil(x.Args, 9)
+				sample.Spoil(x.Locals, 9)
+				sample.Spoil(x.Code, api.Instr{Op: 9})
 			}
-			spoil(passed.Methods, api.Method{Fuel: 9})
+			sample.Spoil(passed.Methods, api.Method{Fuel: 9})
 			if !slices.EqualFunc(rows, kept, equalRow) {
 				t.Fatalf("%v has changed, into %v", kept, rows)
 			}
@@ -131,7 +104,7 @@ func TestRowsApart(t *testing.T) {
 		rows, _ := types.Rows(m, 0)
 		kept := copied(rows)
 		for n := range rows {
-			spoil(rows[n].Kinds, 99)
+			sample.Spoil(rows[n].Kinds, 99)
 			rows[n].Kinds = append(rows[n].Kinds, 98, 97)
 			for k := range rows {
 				if k != n && !equalRow(rows[k], kept[k]) {

@@ -6,6 +6,7 @@ import (
 	"testing"
 
 	"capstan/api"
+	"capstan/sample"
 	"capstan/types"
 )
 
@@ -38,7 +39,7 @@ func compareRows(t *testing.T, m api.Module, want string) {
 
 // P10.1: the chapter's example, with the rows that it tells.
 func TestRowsExample(t *testing.T) {
-	m := alone(methodOf("n", "", "n", written("get 0; const 0; add; ret")))
+	m := alone(methodOf("n", "", "n", sample.Code("get 0; const 0; add; ret")))
 	m.Pool = values("n")
 	compareRows(t, m, "|n|nn|n")
 }
@@ -62,26 +63,26 @@ func TestRows(t *testing.T) {
 		{"loop 2; trap; again 0; add; ret", "||-|-|-"},
 		{"loop 2; jump 4; get 0; again 0; get 3; ret", "||-|-||n"},
 	} {
-		compareRows(t, with(written(x.text)), x.rows)
+		compareRows(t, with(sample.Code(x.text)), x.rows)
 	}
 }
 
 // P10.1: a row tells the kind of each thing that is named: constants, locals, globals and results.
 func TestRowsDeclared(t *testing.T) {
-	m := with(written("const 0; const 1; const 2; get 0; get 1; get 2; get 3; get 4; load 0; load 1; trap"))
+	m := with(sample.Code("const 0; const 1; const 2; get 0; get 1; get 2; get 3; get 4; load 0; load 1; trap"))
 	rows, e := types.Rows(m, 0)
 	if e != 0 || told(rows[10:]) != "npnnrpnrnp" {
 		t.Errorf("%v %d", rows, e)
 	}
 	for k, m := range []api.Module{alone(methodOf("", "", "n", nil)), alone(methodOf("", "", "p", nil))} {
-		m.Methods[0].Code = written("call 0; trap")
+		m.Methods[0].Code = sample.Code("call 0; trap")
 		compareRows(t, m, "|"+"np"[k:k+1])
 	}
 }
 
 // P10.1: the rows of other methods than the first one, which has an error.
 func TestRowsOther(t *testing.T) {
-	m := with(written("nop"))
+	m := with(sample.Code("nop"))
 	for n, want := range []string{"|p|pn|p|p", "||n||p|||n", "|r|n|nn|n|n", "|p|pn|pnn|pn|pnn|pnn|pn|p"} {
 		if rows, e := types.Rows(m, n+1); e != 0 || told(rows) != want {
 			t.Errorf("%s %d, not %s, of method %d", told(rows), e, want, n+1)
@@ -92,7 +93,7 @@ func TestRowsOther(t *testing.T) {
 
 // P10.1: two hundred instructions, with rows of up to 199 values, and of as many values that are taken again.
 func TestRowsLong(t *testing.T) {
-	m := with(append(slices.Repeat(written("get 0"), 199), written("ret")...))
+	m := with(append(slices.Repeat(sample.Code("get 0"), 199), sample.Code("ret")...))
 	rows, e := types.Rows(m, 0)
 	if e != 0 || len(rows) != 200 || types.Height(rows) != 199 {
 		t.Fatalf("%d rows, %d", len(rows), e)
@@ -104,17 +105,17 @@ func TestRowsLong(t *testing.T) {
 	}
 	m.Methods[0].Code[199] = api.Instr{Op: api.OpTrap}
 	compareError(t, m, 0, 0)
-	m.Methods[0].Code = slices.Concat(slices.Repeat(written("get 0"), 100), slices.Repeat(written("add"), 99), written("ret"))
+	m.Methods[0].Code = slices.Concat(slices.Repeat(sample.Code("get 0"), 100), slices.Repeat(sample.Code("add"), 99), sample.Code("ret"))
 	compareError(t, m, 0, 0)
-	m.Methods[0].Code = slices.Concat(slices.Repeat(written("get 0"), 100), slices.Repeat(written("pop"), 99), written("ret"))
+	m.Methods[0].Code = slices.Concat(slices.Repeat(sample.Code("get 0"), 100), slices.Repeat(sample.Code("pop"), 99), sample.Code("ret"))
 	compareError(t, m, 0, 0)
-	m.Methods[0].Code = slices.Concat(slices.Repeat(written("get 0"), 99), slices.Repeat(written("add"), 99), written("nop; ret"))
+	m.Methods[0].Code = slices.Concat(slices.Repeat(sample.Code("get 0"), 99), slices.Repeat(sample.Code("add"), 99), sample.Code("nop; ret"))
 	compareError(t, m, 0, badStack)
-	m.Methods[0].Code = slices.Concat(written("get 2"), slices.Repeat(written("dup"), 99), slices.Repeat(written("padd"), 98), written("pop; ret"))
+	m.Methods[0].Code = slices.Concat(sample.Code("get 2"), slices.Repeat(sample.Code("dup"), 99), slices.Repeat(sample.Code("padd"), 98), sample.Code("pop; ret"))
 	compareError(t, m, 0, badType)
-	m.Methods[0].Code = append(slices.Repeat(written("get 0"), 200), written("ret")...)
+	m.Methods[0].Code = append(slices.Repeat(sample.Code("get 0"), 200), sample.Code("ret")...)
 	compareError(t, m, 0, badOp)
-	m.Methods[0].Code = append(slices.Repeat(written("trap"), 198), written("add; ret")...)
+	m.Methods[0].Code = append(slices.Repeat(sample.Code("trap"), 198), sample.Code("add; ret")...)
 	compareError(t, m, 0, 0)
 }
 
@@ -128,10 +129,10 @@ func TestRowsDiffer(t *testing.T) {
 			}{{3, 0}, {2, badType}, {1, badType}} {
 				// One way leaves n integers as they are; the other one pops those from at on, and pushes them anew.
 				end := n + 2 + 2*(n-at)
-				l := append(slices.Repeat(written("get 0"), n+1), api.Instr{Op: api.OpZero, A: end})
-				l = append(l, slices.Repeat(written("pop"), n-at)...)
+				l := append(slices.Repeat(sample.Code("get 0"), n+1), api.Instr{Op: api.OpZero, A: end})
+				l = append(l, slices.Repeat(sample.Code("pop"), n-at)...)
 				l = append(l, api.Instr{Op: api.OpGet, A: x.a})
-				l = append(l, slices.Repeat(written("get 0"), n-at-1)...)
+				l = append(l, slices.Repeat(sample.Code("get 0"), n-at-1)...)
 				compareError(t, with(append(l, api.Instr{Op: api.OpTrap})), 0, x.want)
 			}
 		}
@@ -168,7 +169,7 @@ func TestHeightOfMethods(t *testing.T) {
 		"trap": 0, "jump 3; get 0; get 0; trap": 0, "get 0; ret": 1, "get 0; get 0; get 0; add; add; ret": 3, "get 0; get 0; add; ret": 2, "get 0; zero 5; get 1; get 1; trap; trap": 2, "trap; get 0; get 0; get 0; trap": 0,
 		"get 0; get 1; get 2; get 3; trap": 4, "get 0; get 1; get 2; get 3; pop; pop; pop; pop; trap": 4,
 	} {
-		rows, e := types.Rows(with(written(text)), 0)
+		rows, e := types.Rows(with(sample.Code(text)), 0)
 		if n := types.Height(rows); n != want || e != 0 {
 			t.Errorf("%d, not %d, of %s: %d", n, want, text, e)
 		}

@@ -6,6 +6,7 @@ import (
 	"testing"
 
 	"capstan/api"
+	"capstan/sample"
 	"capstan/types"
 )
 
@@ -197,7 +198,7 @@ func TestRuns(t *testing.T) {
 // P10.3: where both ways of each OpZero are taken, each index that is reached is reached by some run, and each one that is not by none.
 func TestRunsReach(t *testing.T) {
 	for _, text := range []string{"get 0; zero 3; trap; nop; get 0; ret", "get 2; get 0; zero 6; conj; jump 7; add; nop; re; ret", "get 0; loop 3; get 3; add; again 1; ret", "jump 3; add; ret; get 0; jump 6; pop; ret", "loop 2; get 0; zero 4; nop; again 0; get 0; ret; add; trap", "loop 2; trap; again 0; get 0; ret"} {
-		r := ready(t, with(written(text)))
+		r := ready(t, with(sample.Code(text)))
 		branchings(func(branch func() bool) {
 			r.branch = branch
 			r.start(0)
@@ -216,7 +217,7 @@ func TestRunsFind(t *testing.T) {
 		"add; ret": "fewer values", "get 1; get 0; add; ret": "another kind", "get 0; zero 3; get 0; nop; trap": "another row", "loop 2; get 0; again 0; trap": "another row", "get 2; ret": "another kind", "get 0; set 2; trap": "another kind",
 		"get 0; get 0; call 1; re; ret": "another kind",
 	} {
-		m := with(written(text))
+		m := with(sample.Code(text))
 		found := ""
 		branchings(func(branch func() bool) {
 			r := &run{m: m, branch: branch, seen: map[int]bool{}}
@@ -238,7 +239,7 @@ func TestRunsFind(t *testing.T) {
 
 // guessed returns rows as they would be without any jump.
 func guessed(text string) []types.Row {
-	l := written(text)
+	l := sample.Code(text)
 	m := with(l)
 	rows := make([]types.Row, len(l))
 	var row []uint8

@@ -3,13 +3,13 @@ package types_test
 import (
 	"iter"
 	"slices"
-	"strconv"
 	"strings"
 	"testing"
 
 	"capstan/api"
 	"capstan/flow"
 	"capstan/op"
+	"capstan/sample"
 	"capstan/types"
 )
 
@@ -51,24 +51,6 @@ func values(text string) []api.Value {
 	return l
 }
 
-// written returns the code that is written as in the chapter, with semicolons between.
-func written(text string) []api.Instr {
-	var l []api.Instr
-	for line := range strings.SplitSeq(text, ";") {
-		words := strings.Fields(line)
-		opcode, is := op.Parse(words[0])
-		if !is {
-			panic(words[0])
-		}
-		i := api.Instr{Op: opcode}
-		if len(words) > 1 {
-			i.A, _ = strconv.Atoi(words[1])
-		}
-		l = append(l, i)
-	}
-	return l
-}
-
 // methodOf returns a method of these kinds.
 func methodOf(args, locals, result string, code []api.Instr) api.Method {
 	return api.Method{Args: kinds(args), Locals: kinds(locals), Result: kindOf(result[0]), Code: code}
@@ -80,10 +62,10 @@ func with(code []api.Instr) api.Module {
 		Globals: values("np"), Pool: values("npn"), Migrate: -1,
 		Methods: []api.Method{
 			methodOf("nr", "pnr", "n", code),
-			methodOf("pn", "", "p", written("get 0; get 1; zero 4; conj; ret")),
-			methodOf("", "n", "n", written("loop 2; load 0; zero 5; load 1; store 1; again 0; get 0; ret")),
-			methodOf("r", "", "n", written("get 0; len; dup; zero 5; ret; trap 7")),
-			methodOf("nprn", "pp", "p", written("get 1; get 0; get 3; add; call 2; swap; pop; call 1; ret")),
+			methodOf("pn", "", "p", sample.Code("get 0; get 1; zero 4; conj; ret")),
+			methodOf("", "n", "n", sample.Code("loop 2; load 0; zero 5; load 1; store 1; again 0; get 0; ret")),
+			methodOf("r", "", "n", sample.Code("get 0; len; dup; zero 5; ret; trap 7")),
+			methodOf("nprn", "pp", "p", sample.Code("get 1; get 0; get 3; add; call 2; swap; pop; call 1; ret")),
 		},
 	}
 }
@@ -280,20 +262,6 @@ func compare(t *testing.T, m api.Module, k int) api.Errno {
 	return 0
 }
 
-// twin returns a module equal to m in memory of its own; each of its slices has room behind it, which holds something else.
-func twin(m api.Module) api.Module {
-	m.Globals = append(slices.Clone(m.Globals), values("rxo")...)[:len(m.Globals)]
-	m.Pool = append(slices.Clone(m.Pool), values("rxo")...)[:len(m.Pool)]
-	m.Methods = append(slices.Clone(m.Methods), methodOf("n", "p", "r", written("trap")), api.Method{Fuel: 7})[:len(m.Methods)]
-	for i, x := range m.Methods {
-		x.Args = append(slices.Clone(x.Args), 9, 8, 7)[:len(x.Args)]
-		x.Locals = append(slices.Clone(x.Locals), 6, 5, 4)[:len(x.Locals)]
-		x.Code = append(slices.Clone(x.Code), api.Instr{Op: 200, A: 9, B: 8})[:len(x.Code)]
-		m.Methods[i] = x
-	}
-	return m
-}
-
 // dice yields numbers that look like chance, the same ones each time.
 type dice uint64
 
@@ -327,7 +295,7 @@ func instructions(n int) []api.Instr {
 
 // some returns instructions that tell apart what this layer tells apart, for code of n of them.
 func some(n int) []api.Instr {
-	l := written("get 0; get 1; get 2; const 0; set 3; store 0; pop; dup; swap; add; pair; re; at; new 3; loop 2; call 1; call 2; ret; trap")
+	l := sample.Code("get 0; get 1; get 2; const 0; set 3; store 0; pop; dup; swap; add; pair; re; at; new 3; loop 2; call 1; call 2; ret; trap")
 	for a := 1; a < n; a++ {
 		l = append(l, api.Instr{Op: api.OpZero, A: a}, api.Instr{Op: api.OpJump, A: a})
 	}
@@ -405,20 +373,20 @@ func (g *grower) add(i api.Instr) {
 // dead appends instructions that are not reached, whatever they take.
 func (g *grower) dead() {
 	for range g.below(3) {
-		g.code = append(g.code, written("add; get 4; pop; swap; put; call 4; store 1; re; ret; nop; dup")[g.below(11)])
+		g.code = append(g.code, sample.Code("add; get 4; pop; swap; put; call 4; store 1; re; ret; nop; dup")[g.below(11)])
 	}
 }
 
 // push pushes a value of that kind.
 func (g *grower) push(letter byte) {
 	choices := map[byte]string{'n': "get 0; get 3; const 0; const 2; load 0; call 2", 'p': "get 2; const 1; load 1", 'r': "get 1; get 4"}
-	l := written(choices[letter])
+	l := sample.Code(choices[letter])
 	g.add(l[g.below(len(l))])
 }
 
 // plain appends an instruction that does not jump, and takes no value of those below base.
 func (g *grower) plain(base int) {
-	l := written("nop; set 0; set 1; set 2; set 3; set 4; store 0; store 1; pop; dup; swap; add; mul; rem; less; same; pair; re; im; padd; pmul; conj; new 9; at; put; len; call 1; call 2; call 3; call 4")
+	l := sample.Code("nop; set 0; set 1; set 2; set 3; set 4; store 0; store 1; pop; dup; swap; add; mul; rem; less; same; pair; re; im; padd; pmul; conj; new 9; at; put; len; call 1; call 2; call 3; call 4")
 	i := l[g.below(len(l))]
 	takes, _ := effectOf(g.m, g.m.Methods[0], i)
 	_, e := afterRow(g.m, g.m.Methods[0], i, g.row)
@@ -525,7 +493,7 @@ func grown(seed int) []api.Instr {
 			return g.code
 		}
 	}
-	return written("get 0; ret")
+	return sample.Code("get 0; ret")
 }
 
 // changed returns a copy of l with another instruction at an index, or two of them exchanged.
