@@ -19,7 +19,7 @@ import (
 	"capstan/verify"
 )
 
-// tiny yields modules of two methods, the first one with each code of up to three of some instructions ahead of its last one, with each way that Reads can be set, and with some method that migrates or none.
+// tiny yields modules of two methods, the first one with each code of up to two of some instructions ahead of its last one, with each way that Reads can be set, and with some method that migrates or none.
 func tiny() iter.Seq[api.Module] {
 	return func(yield func(api.Module) bool) {
 		others := []api.Method{method("n", "", "get 0; ret"), method("", "r", "const 0; store 0; const 0; ret"), method("r", "n", "trap; call 0; trap"), plain("load 1; ret")}
