@@ -15,8 +15,8 @@ var parts = [...]int64{0, 1, -1, 2, -3, 1000, api.MaxPart, -api.MaxPart}
 // numbers are integers that are likely to bring about something.
 var numbers = [...]int64{0, 1, -1, 2, 3, 5, -7, 40, 1 << 32, 1<<63 - 1, -1 << 63}
 
-// value returns a value of that kind, which is not KdRef.
-func (d *Dice) value(kind uint8) api.Value {
+// Value returns a value of that kind, which is not KdRef.
+func (d *Dice) Value(kind uint8) api.Value {
 	if kind == api.KdPair {
 		return api.Value{Kind: kind, A: Pick(d, parts[:]), B: Pick(d, parts[:])}
 	}
@@ -36,7 +36,7 @@ func (d *Dice) kinds(n int, letters string) []uint8 {
 func (d *Dice) values(n int) []api.Value {
 	var l []api.Value
 	for _, kind := range d.kinds(n, "np") {
-		l = append(l, d.value(kind))
+		l = append(l, d.Value(kind))
 	}
 	return l
 }
@@ -247,7 +247,7 @@ func (d *Dice) order(n int) []int {
 
 // grow returns a module without certificates: of methods that type-check, and call only those that stand farther on in some order of all.
 func (d *Dice) grow() api.Module {
-	m := api.Module{Globals: d.values(api.MaxGlobals + 1), Pool: append([]api.Value{d.value(api.KdInt), d.value(api.KdPair)}, d.values(6)...), Migrate: -1}
+	m := api.Module{Globals: d.values(api.MaxGlobals + 1), Pool: append([]api.Value{d.Value(api.KdInt), d.Value(api.KdPair)}, d.values(6)...), Migrate: -1}
 	for range 1 + d.Below(6) {
 		m.Methods = append(m.Methods, api.Method{Args: d.kinds(4, "nnpr"), Locals: d.kinds(4, "nnpr"), Result: Pick(d, Kinds("nnp"))})
 	}
